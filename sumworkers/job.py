@@ -1,6 +1,6 @@
 """The calls on a job, and the list of their answers."""
 
-from sumworkers.keeper import Keeper
+from sumworkers.keeper import TO_STAND, Keeper
 from sumworkers.log import Log
 from sumworkers.request import BEGIN, DATA, LOG
 from sumworkers.worker import Worker
@@ -9,6 +9,7 @@ FIRST_BATCH = 2
 LARGEST_BATCH = 5
 LARGEST_VALUE = 1000
 WORKER_COUNT = 3
+LOG_COUNT = 2
 
 IS_ANSWERED = 0
 ANSWER_IS_LOST = 1
@@ -16,6 +17,7 @@ IS_IN_THE_AIR = 3
 
 OUT_OF_RANGE = -1
 NO_SUCH_WAY = -2
+WRONG_TRANSACTION_STATE = -4
 NOT_IN_THE_AIR = -5
 WRONG_WORKER_STATE = -6
 
@@ -46,10 +48,25 @@ class Job:
             return self.logs[request[3]].serve_data(request[1], request[4], request[5])
         return self.keeper.serve_end(request[1], request[2], request[3], request[4])
 
+    def write_marker(self, j):
+        """Log j, which lacks it, has its marker; told is which one."""
+        state = self.keeper.transaction.state
+        if state == TO_STAND:
+            self.logs[j].write_stands()
+        else:
+            self.logs[j].write_goes(self.keeper.epoch)
+        self.keeper.note_marker(j)
+        return state
+
 
 def is_worker(i):
     """Whether there is a worker i, up or down."""
     return i >= 1 and i <= WORKER_COUNT
+
+
+def is_log(j):
+    """Whether there is a log j."""
+    return j < LOG_COUNT
 
 
 def call_begin(job, given):
@@ -139,6 +156,70 @@ def put_worker(job, i, up):
     return [0]
 
 
+def call_push(job, given):
+    """push (j)"""
+    j = given[0]
+    if not is_log(j):
+        return [OUT_OF_RANGE]
+    if not job.keeper.awaits_marker(j):
+        return [WRONG_TRANSACTION_STATE]
+    return [job.write_marker(j)]
+
+
+def call_expire(job, given):
+    """expire ()"""
+    if not job.keeper.has_open():
+        return [WRONG_TRANSACTION_STATE]
+    job.keeper.undo()
+    return [job.keeper.epoch]
+
+
+def call_read(job, given):
+    """read (j, n)"""
+    j = given[0]
+    if not is_log(j):
+        return [OUT_OF_RANGE]
+    sums = job.logs[j].seen_sums()[given[1]:]
+    return [len(sums)] + sums
+
+
+def call_raw(job, given):
+    """raw (j)"""
+    j = given[0]
+    if not is_log(j):
+        return [OUT_OF_RANGE]
+    told = [len(job.logs[j].records)]
+    for record in job.logs[j].records:
+        told.extend(record)
+    return told
+
+
+def call_worker(job, given):
+    """worker (i)"""
+    i = given[0]
+    if not is_worker(i):
+        return [OUT_OF_RANGE]
+    one = job.workers[i - 1]
+    return [int(one.up), one.epoch, one.place, one.total, one.number, one.granted_data, int(one.ending)]
+
+
+def call_keeper(job, given):
+    """keeper ()"""
+    one = job.keeper
+    told = [one.epoch, one.last_ended, one.place, one.total]
+    if one.transaction is None:
+        return told + [0]
+    return told + [1] + tell_transaction(one.transaction)
+
+
+def tell_transaction(transaction):
+    """Its number, its state, which logs it has, and which ones lack its marker."""
+    told = [transaction.number, transaction.state]
+    for flag in transaction.has_log + transaction.lacks_marker:
+        told.append(int(flag))
+    return told
+
+
 # By a call's number: what serves it, and how many whole numbers it has.
 CALLS = {
     0: (call_begin, 1),
@@ -148,6 +229,12 @@ CALLS = {
     4: (call_air, 0),
     5: (call_crash, 1),
     6: (call_start, 1),
+    7: (call_push, 1),
+    8: (call_expire, 0),
+    9: (call_read, 2),
+    10: (call_raw, 1),
+    11: (call_worker, 1),
+    12: (call_keeper, 0),
 }
 
 

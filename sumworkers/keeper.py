@@ -40,9 +40,13 @@ class Keeper:
             self.epoch += 1
             self.last_ended = 0
             return (GRANTED, self.epoch, self.place, self.total)
-        if self.transaction.state == IS_OPEN:
+        if self.has_open():
             self.undo()
         return (WAIT,)
+
+    def has_open(self):
+        """Whether a transaction is under way and open."""
+        return self.transaction is not None and self.transaction.state == IS_OPEN
 
     def undo(self):
         """The open transaction is to go."""
@@ -75,14 +79,26 @@ class Keeper:
         """The answer to a transaction that is to stand, with the place and the sum behind it."""
         if epoch != self.epoch:
             return (SHUT_OUT,)
-        if self.has_open(number):
+        if self.has_open() and self.transaction.number == number:
             self.transaction.settle(TO_STAND)
             self.transaction.place = place
             self.transaction.total = total
         return (GRANTED,)
 
-    def has_open(self, number):
-        """Whether the transaction under way has this number and is open."""
-        if self.transaction is None:
-            return False
-        return self.transaction.number == number and self.transaction.state == IS_OPEN
+    def awaits_marker(self, j):
+        """Whether a transaction is under way whose marker log j lacks."""
+        return self.transaction is not None and self.transaction.lacks_marker[j]
+
+    def note_marker(self, j):
+        """Log j has its marker; if no log lacks one any more, the transaction is over."""
+        self.transaction.lacks_marker[j] = False
+        if True not in self.transaction.lacks_marker:
+            self.close()
+
+    def close(self):
+        """The transaction under way is over."""
+        if self.transaction.state == TO_STAND:
+            self.place = self.transaction.place
+            self.total = self.transaction.total
+        self.last_ended = self.transaction.number
+        self.transaction = None

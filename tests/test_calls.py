@@ -1,11 +1,11 @@
-"""begin, input, crash and start, what the interface promises of the list, and all refusals."""
+"""begin, input, crash and start, what the interface promises of the list, and the refusals of work."""
 
 import unittest
 
 from sumworkers.job import answers
 from tests.lines import (
-    AIR, BEGIN, GRANTED, LARGEST, LOST, SENT, SERVED, SHUT_OUT, UNHEARD, WAIT, LineCase,
-    arrive, begin, crash, data, end, log, put, start, work,
+    AIR, AT_FIRST, BEGIN, EXPIRE, GRANTED, KEEPER, LARGEST, LOST, SENT, SERVED, SHUT_OUT, UNHEARD, WAIT, LineCase,
+    arrive, begin, crash, data, end, log, push, put, raw, read, start, work, worker,
 )
 
 
@@ -33,6 +33,8 @@ class BeginTest(LineCase):
         ]
         self.check(*steps)
         self.check((begin(2), [0]), *steps)
+        self.check(*AT_FIRST)
+        self.check((begin(2), [0]), *AT_FIRST)
 
     def test_data_of_a_transaction_for_each_batch(self):
         for batch in (1, 2, 3, 4, 5):
@@ -287,9 +289,48 @@ class InterfaceTest(LineCase):
         ])
         self.assertIs(type(told), list)
 
+    def test_the_list_number_by_number_of_what_tells(self):
+        calls = [
+            1, 3, 2, 1, 0, 2, 1, 0, 2, 1, 0, 11, 1, 12, 7, 1, 8, 12, 7, 1, 10, 1, 9, 1, 0, 2, 1, 0, 2, 1, 0, 2, 1, 0,
+            2, 1, 0, 2, 1, 0, 7, 1, 9, 1, 0, 9, 1, 1, 10, 1, 11, 2, 12, 7, 2, 8, 9, 2, 9, 10, 2, 11, 0,
+        ]
+        self.assertEqual(answers(calls), [
+            1, 1,
+            2, 1, 1,
+            5, 2, 1, 1, 1, 1,
+            7, 3, 1, 1, 1, 1, 3, 1,
+            7, 1, 1, 1, 3, 1, 1, 0,
+            11, 1, 0, 0, 0, 1, 1, 0, 0, 1, 0, 0,
+            1, -4,
+            1, 2,
+            11, 2, 0, 0, 0, 1, 1, 2, 0, 1, 0, 1,
+            1, 2,
+            5, 2, 1, 1, 3, 3,
+            1, 0,
+            6, 4, 1, 1, 1, 3, 3,
+            2, 1, 1,
+            5, 2, 3, 1, 1, 1,
+            7, 3, 3, 1, 1, 1, 3, 1,
+            6, 4, 3, 1, 1, 3, 1,
+            1, 1,
+            2, 1, 3,
+            1, 0,
+            9, 4, 1, 1, 3, 3, 1, 3, 3, 2,
+            7, 0, 0, 0, 0, 0, 0, 0,
+            5, 3, 1, 1, 3, 0,
+            1, -1,
+            1, -4,
+            1, -1,
+            1, -1,
+            1, -1,
+        ])
+
     def test_the_same_list_twice(self):
         calls = []
-        for call in (put(3), work(1), work(1), work(1), work(1, SENT), start(2), work(2), work(1), AIR, arrive(1)):
+        for call in (
+            put(3), work(1), work(1), work(1), work(1, SENT), start(2), work(2), work(1), AIR, arrive(1), push(1),
+            work(2), KEEPER, raw(1), read(1), worker(1), worker(2), work(2), EXPIRE, push(1), raw(1), begin(1), KEEPER,
+        ):
             calls += call
         before = list(calls)
         first = answers(calls)
@@ -312,7 +353,10 @@ class InterfaceTest(LineCase):
             append = extend = insert = pop = remove = clear = reverse = sort = refuse
             __setitem__ = __delitem__ = __iadd__ = __imul__ = refuse
 
-        calls = Watched([1, 3, 2, 1, 0, 2, 1, 3, 4, 3, 1, 5, 1, 6, 1, 0, 2])
+        calls = Watched([
+            1, 3, 2, 1, 0, 2, 1, 3, 4, 3, 1, 5, 1, 6, 1, 8, 12, 7, 1, 9, 1, 0, 10, 1, 11, 1, 7, 2, 9, 2, 2, 10, 2,
+            11, 0, 0, 2, 12,
+        ])
         self.assertEqual(answers(calls), answers(list(calls)))
 
     def test_large_numbers(self):
@@ -325,6 +369,14 @@ class InterfaceTest(LineCase):
             (arrive(LARGEST), [-5]),
             (crash(LARGEST), [-1]),
             (start(LARGEST), [-1]),
+            (push(LARGEST), [-1]),
+            (read(LARGEST, LARGEST), [-1]),
+            (read(LARGEST, 0), [-1]),
+            (read(0, LARGEST), [0]),
+            (read(1, LARGEST), [0]),
+            (raw(LARGEST), [-1]),
+            (worker(LARGEST), [-1]),
+            (KEEPER, [0, 0, 0, 0, 0]),
             (work(1, SENT), BEGIN),
             (arrive(LARGEST), [-5]),
             (AIR, [1] + BEGIN),

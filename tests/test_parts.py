@@ -1,4 +1,4 @@
-"""What the document says of logs, keeper and workers where a list of calls doesn't show it yet."""
+"""What the document says of logs, keeper and workers, also where no list of calls can show it."""
 
 import unittest
 
@@ -52,6 +52,33 @@ class LogTest(unittest.TestCase):
         self.assertEqual(self.log.serve_data(2, 1, 8), SHUT_OUT)
         self.assertEqual(self.log.serve_data(2, 2, 8), SHUT_OUT)
         self.assertEqual(self.knows(), (3, 1, [(1, 3, 4)]))
+
+    def test_behind_stands_it_knows_what_it_knew(self):
+        self.log.serve_data(3, 1, 4)
+        self.log.serve_data(3, 2, 6)
+        self.log.write_stands()
+        self.assertEqual(self.knows(), (3, 2, [(1, 3, 4), (1, 3, 6), (2,)]))
+
+    def test_behind_goes_it_knows_the_keeper_s_epoch_and_0(self):
+        self.log.serve_data(3, 1, 4)
+        self.log.serve_data(3, 2, 6)
+        self.log.write_goes(4)
+        self.assertEqual(self.knows(), (4, 0, [(1, 3, 4), (1, 3, 6), (3,)]))
+        self.assertEqual(self.log.serve_data(3, 3, 8), SHUT_OUT)
+        self.assertEqual(self.log.serve_data(4, 2, 8), SHUT_OUT)
+        self.assertEqual(self.log.serve_data(4, 1, 8), GRANTED)
+
+    def test_stands_with_no_data_ahead_of_it(self):
+        self.log.write_stands()
+        self.assertEqual(self.log.seen_sums(), [])
+        self.log.serve_data(1, 1, 8)
+        self.log.write_stands()
+        self.log.write_stands()
+        self.assertEqual(self.log.seen_sums(), [8])
+        self.log.serve_data(1, 2, 6)
+        self.log.write_goes(2)
+        self.log.write_stands()
+        self.assertEqual(self.log.seen_sums(), [8])
 
 
 class KeeperTest(unittest.TestCase):
@@ -147,6 +174,18 @@ class KeeperTest(unittest.TestCase):
         self.assertEqual((self.keeper.transaction.place, self.keeper.transaction.total), (5, 9))
         self.assertEqual((self.keeper.place, self.keeper.total), (0, 0))
 
+    def test_what_ended_is_its_own_number(self):
+        self.open_transaction(4)
+        self.keeper.serve_end(1, 4, 5, 9)
+        self.keeper.note_marker(0)
+        one = self.keeper
+        self.assertEqual((one.epoch, one.last_ended, one.place, one.total, one.transaction), (1, 4, 5, 9, None))
+        self.keeper.serve_log(1, 7, 1)
+        self.keeper.undo()
+        self.assertEqual((one.epoch, one.last_ended), (2, 4))
+        self.keeper.note_marker(1)
+        self.assertEqual((one.epoch, one.last_ended, one.place, one.total, one.transaction), (2, 7, 5, 9, None))
+
 
 class WorkerTest(unittest.TestCase):
     def setUp(self):
@@ -216,6 +255,16 @@ class JobTest(unittest.TestCase):
         self.assertEqual(job.logs[1].records, [(1, 2, 9), (1, 2, 7)])
         self.assertEqual(job.serve((4, 2, 5, 6, 9)), GRANTED)
         self.assertEqual((job.keeper.transaction.place, job.keeper.transaction.total), (6, 9))
+
+    def test_a_log_knows_the_keeper_s_epoch_behind_goes(self):
+        job = Job()
+        job.serve((1,))
+        job.serve((2, 1, 1, 0))
+        job.serve((3, 1, 1, 0, 1, 8))
+        job.keeper.undo()
+        self.assertEqual(job.write_marker(0), 2)
+        self.assertEqual((job.logs[0].epoch, job.logs[0].last_number), (2, 0))
+        self.assertEqual((job.logs[1].epoch, job.logs[1].last_number), (0, 0))
 
 
 if __name__ == "__main__":

@@ -6,21 +6,13 @@ from tests.lines import (
     AIR, BEGIN, GRANTED, LOST, SENT, SHUT_OUT, UNHEARD, WAIT, LineCase,
     arrive, begin, crash, data, end, log, put, start, work,
 )
+from tests.states import EVEN_OPEN
 
 # Worker 1 has epoch 1 and log 0 in transaction 1, which is open; the input is 2, 2, 2 and the batch 2.
-OPENED = [
-    (put(2), [1]),
-    (put(2), [2]),
-    (put(2), [3]),
-    (work(1), BEGIN + [GRANTED]),
-    (work(1), log(1, 1, 0) + [GRANTED]),
-]
+OPENED = EVEN_OPEN[:5]
 
 # Behind that it was granted the two data of its batch.
-FILLED = OPENED + [
-    (work(1), data(1, 1, 0, 1, 2) + [GRANTED]),
-    (work(1), data(1, 1, 0, 2, 4) + [GRANTED]),
-]
+FILLED = EVEN_OPEN
 
 
 class AskTest(LineCase):
